@@ -1,0 +1,1 @@
+"""Gate scheduler with a waiting-time limit; `gatehours.planner` holds the way in."""

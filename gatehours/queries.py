@@ -1,0 +1,40 @@
+"""The calls that answer from a planner and leave it as it is."""
+
+from gatehours.refusals import none_found
+from gatehours.schedules import (
+    arrivals_between,
+    earliest_infeasible_interval,
+    find_best_schedule,
+    has_feasible_schedule,
+)
+
+
+def counted(numbers):
+    return [len(numbers)] + numbers
+
+
+def list_arrivals(planner):
+    return counted(planner.arrivals)
+
+
+def best_schedule(planner):
+    if not has_feasible_schedule(planner):
+        return none_found()
+    return counted(find_best_schedule(planner))
+
+
+def min_gate_minutes(planner):
+    if not has_feasible_schedule(planner):
+        return none_found()
+    return [sum(find_best_schedule(planner))]
+
+
+def is_possible(planner):
+    return [1 if has_feasible_schedule(planner) else 0]
+
+
+def infeasible_interval(planner):
+    interval = earliest_infeasible_interval(planner)
+    if interval is None:
+        return none_found()
+    return [interval[0], interval[1], arrivals_between(planner, interval[0], interval[1])]

@@ -14,7 +14,7 @@ def add_minute(planner, arrivals):
 
 
 def set_arrivals(planner, minute, arrivals):
-    if minute >= len(planner.arrivals):
+    if not planner.has_minute(minute):
         return no_such_minute()
     if not arrivals_allowed(arrivals):
         return out_of_range()

@@ -1,4 +1,4 @@
-"""The ranges of the values that a planner holds.
+"""The ranges of the values that a planner holds, and of the numbers in a given schedule.
 
 No value that is handed in lies below 0, so only `per_gate` has a lower end to ask for.
 """
@@ -8,6 +8,7 @@ MOST_GATES = 6
 MOST_WAIT = 6
 MOST_ARRIVALS = 40
 MOST_MINUTES = 10
+MOST_IN_SCHEDULE = 9
 
 
 def per_gate_allowed(people):
@@ -24,3 +25,8 @@ def max_wait_allowed(minutes):
 
 def arrivals_allowed(people):
     return people <= MOST_ARRIVALS
+
+
+def gates_allowed(gates):
+    """Whether a given schedule may have the number in it; `max_gates` is another question."""
+    return gates <= MOST_IN_SCHEDULE

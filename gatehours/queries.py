@@ -1,6 +1,6 @@
-"""The calls that answer from a planner and leave it as it is."""
+"""The calls that answer from a planner as it is, and leave it so."""
 
-from gatehours.refusals import none_found
+from gatehours.refusals import no_such_minute, none_found
 from gatehours.schedules import (
     arrivals_between,
     earliest_infeasible_interval,
@@ -38,3 +38,13 @@ def infeasible_interval(planner):
     if interval is None:
         return none_found()
     return [interval[0], interval[1], arrivals_between(planner, interval[0], interval[1])]
+
+
+def total_arrivals(planner, first, last):
+    if not planner.has_minute(first) or not planner.has_minute(last):
+        return no_such_minute()
+    return [arrivals_between(planner, first, last)]
+
+
+def get_state(planner):
+    return [len(planner.arrivals), planner.per_gate, planner.max_gates, planner.max_wait, sum(planner.arrivals)]

@@ -13,6 +13,9 @@ class Planner:
         self.max_wait = max_wait
         self.arrivals = []
 
+    def has_minute(self, minute):
+        return minute < len(self.arrivals)
+
 
 class Session:
     """The planner that the calls work on; None until one has been created."""

@@ -1,39 +1,18 @@
 """The best schedule and the infeasible interval against the document's own definitions."""
 
-import itertools
-import random
 import unittest
 
 from tests.helper import (
     ask_planner,
     best_by_steps,
     best_of_all,
+    every_small_plan,
     feasible_by_queue,
     interval_by_definition,
+    plans_at_the_limits,
     schedule_length,
+    some_plans,
 )
-
-
-def every_small_plan():
-    """Up to three minutes with up to three people each, and all small settings."""
-    for count in range(4):
-        for arrivals in itertools.product(range(4), repeat=count):
-            for settings in itertools.product((1, 2, 3), (0, 1, 2), (0, 1, 2)):
-                yield (list(arrivals), *settings)
-
-
-def some_plans(seed, wanted, most_schedules):
-    """Planners from all of the ranges, the crowds of which lie about what their gates can admit."""
-    source = random.Random(seed)
-    plans = []
-    while len(plans) < wanted:
-        count = source.randint(1, 10)
-        per_gate, max_gates, max_wait = source.randint(1, 9), source.randint(0, 6), source.randint(0, 6)
-        most = min(40, source.choice((1, 1, 2, 3)) * (per_gate * max_gates + 1))
-        arrivals = [source.choice((0, source.randint(0, most), source.randint(0, most))) for minute in range(count)]
-        if (max_gates + 1) ** (count + max_wait) <= most_schedules:
-            plans.append((arrivals, per_gate, max_gates, max_wait))
-    return plans
 
 
 class DefinitionCase(unittest.TestCase):
@@ -62,7 +41,7 @@ class DefinitionCase(unittest.TestCase):
 
 class AgainstAllSchedules(DefinitionCase):
     def test_every_small_planner(self):
-        self.check_all(every_small_plan(), best_of_all)
+        self.check_all(every_small_plan(3), best_of_all)
 
     def test_some_planners_with_more_minutes_or_gates(self):
         self.check_all(some_plans(1, 500, 3000), best_of_all)
@@ -74,15 +53,10 @@ class AgainstSteps(DefinitionCase):
             self.assertEqual(best_by_steps(*plan), best_of_all(*plan), plan)
 
     def test_some_planners_of_any_size(self):
-        self.check_all(some_plans(3, 500, 7 ** 16), best_by_steps)
+        self.check_all(some_plans(3, 500), best_by_steps)
 
     def test_planners_at_the_limits(self):
-        crowds = (
-            [40] * 10, [0] * 10, [40] + [0] * 9, [0] * 9 + [40], [40, 0] * 5, [0, 40] * 5,
-            [0] * 5 + [40] * 5, [40] * 5 + [0] * 5, list(range(31, 41)), [40] * 9, [40],
-        )
-        plans = [(crowd, *rest) for crowd in crowds for rest in itertools.product((1, 9), (0, 6), (0, 6))]
-        self.check_all(plans, best_by_steps)
+        self.check_all(plans_at_the_limits(), best_by_steps)
 
 
 class LimitsByHand(DefinitionCase):

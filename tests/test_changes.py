@@ -2,32 +2,20 @@
 
 import unittest
 
-from tests.helper import LARGEST, ask, ask_planner, building, probed, probing
+from tests.helper import LARGEST, LARGEST_IN_ROW, PROBES, PlannerCase, ask, ask_planner, building, probed
 
 SMALL = ([5, 0, 3], 2, 3, 1)
 EMPTY = ([], 2, 3, 1)
 FULL = ([0, 40, 1, 39, 2, 38, 3, 37, 4, 36], 9, 6, 6)
 
 
-class ChangeCase(unittest.TestCase):
-    def check_change(self, plan, call, answered, after):
-        """The call is answered so, and leaves the planner so."""
-        found = ask_planner(plan, call, *probing(*after))
-        self.assertEqual(found, [answered] + probed(*after), (plan, call))
-
-    def check_refusal(self, plan, call, code):
-        """The call is refused so, and every part of the state is what it was."""
-        found = ask_planner(plan, *probing(*plan), call, *probing(*plan))
-        self.assertEqual(found, probed(*plan) + [[code]] + probed(*plan), (plan, call))
-
-
-class Create(ChangeCase):
+class Create(PlannerCase):
     def test_ends_of_the_ranges(self):
         for per_gate in (1, 5, 9):
             for max_gates in (0, 3, 6):
                 for max_wait in (0, 2, 6):
                     plan = ([], per_gate, max_gates, max_wait)
-                    self.assertEqual(ask_planner(plan, *probing(*plan)), probed(*plan))
+                    self.assertEqual(ask_planner(plan, *PROBES), probed(*plan))
                     self.assertEqual(ask(("create", per_gate, max_gates, max_wait)), [[0]])
 
     def test_out_of_range(self):
@@ -58,6 +46,16 @@ class NoPlanner(unittest.TestCase):
         ("set_max_gates", 0), ("set_max_gates", 7), ("set_max_gates", LARGEST),
         ("set_max_wait", 0), ("set_max_wait", 7), ("set_max_wait", LARGEST),
         ("list_arrivals",), ("best_schedule",), ("min_gate_minutes",), ("is_possible",), ("infeasible_interval",),
+        ("is_feasible", []), ("is_feasible", [0]), ("is_feasible", [LARGEST_IN_ROW] * 20),
+        ("admitted", []), ("admitted", [9, 9]), ("admitted", [10] * 20),
+        ("queue_lengths", []), ("queue_lengths", [1, 2, 3]), ("queue_lengths", [LARGEST_IN_ROW]),
+        ("longest_wait", []), ("longest_wait", [0]), ("longest_wait", [0] * 20),
+        ("min_max_gates",), ("min_max_wait",),
+        ("gate_minutes_if_arrivals", 0, 5), ("gate_minutes_if_arrivals", LARGEST, LARGEST),
+        ("gate_minutes_if_max_wait", 0), ("gate_minutes_if_max_wait", 7), ("gate_minutes_if_max_wait", LARGEST),
+        ("max_arrivals", 0), ("max_arrivals", LARGEST),
+        ("total_arrivals", 0, 0), ("total_arrivals", 1, 0), ("total_arrivals", LARGEST, LARGEST),
+        ("get_state",),
     )
 
     def test_before_the_first_create(self):
@@ -71,11 +69,11 @@ class NoPlanner(unittest.TestCase):
                 self.assertEqual(ask(failed, call), [[-22], [-11]], (failed, call))
 
     def test_nothing_of_a_refused_call_comes_back(self):
-        calls = (*self.CALLS, ("create", 2, 3, 1), *probing(*EMPTY))
+        calls = (*self.CALLS, ("create", 2, 3, 1), *PROBES)
         self.assertEqual(ask(*calls)[len(self.CALLS):], [[0]] + probed(*EMPTY))
 
 
-class AddMinute(ChangeCase):
+class AddMinute(PlannerCase):
     def test_ends_of_the_range(self):
         for people in (0, 1, 39, 40):
             self.check_change(EMPTY, ("add_minute", people), [0], ([people], 2, 3, 1))
@@ -100,7 +98,7 @@ class AddMinute(ChangeCase):
         self.assertEqual(ask_planner(FULL, *calls), [[9], [9], [-28]])
 
 
-class SetArrivals(ChangeCase):
+class SetArrivals(PlannerCase):
     def test_each_minute_and_the_ends_of_the_range(self):
         for people in (0, 17, 40):
             self.check_change(SMALL, ("set_arrivals", 0, people), [5], ([people, 0, 3], 2, 3, 1))
@@ -131,7 +129,7 @@ class SetArrivals(ChangeCase):
         self.assertEqual(ask_planner(SMALL, ("remove_last_minute",), ("set_arrivals", 2, 5)), [[2], [-2]])
 
 
-class RemoveLastMinute(ChangeCase):
+class RemoveLastMinute(PlannerCase):
     def test_down_to_none(self):
         self.check_change(SMALL, ("remove_last_minute",), [2], ([5, 0], 2, 3, 1))
         self.check_change(FULL, ("remove_last_minute",), [9], (FULL[0][:9], 9, 6, 6))
@@ -142,7 +140,7 @@ class RemoveLastMinute(ChangeCase):
         self.check_refusal(EMPTY, ("remove_last_minute",), -6)
 
 
-class Settings(ChangeCase):
+class Settings(PlannerCase):
     def test_set_per_gate(self):
         for people in (1, 2, 8, 9):
             self.check_change(SMALL, ("set_per_gate", people), [2], ([5, 0, 3], people, 3, 1))
